@@ -1,0 +1,49 @@
+"""What the interface lists is defined, with its arguments, in the file that it names."""
+
+import ast
+import pathlib
+import unittest
+
+FOLDER = pathlib.Path(__file__).resolve().parent.parent / "thinskin"
+
+FUNCTIONS = {
+    "space.py": {
+        "is_place": ["thing"],
+        "less_by": ["one", "other"],
+        "cross_of": ["one", "other"],
+        "dot_of": ["one", "other"],
+        "fraction_of": ["n", "d"],
+        "compare_two": ["one", "other"],
+        "normal_of": ["a", "b", "c"],
+    },
+    "foot.py": {
+        "foot_on": ["flake", "vector"],
+        "square_to": ["flake", "vector"],
+        "shows_foot": ["flake", "vector", "thing"],
+    },
+}
+CLASSES = {
+    "errors.py": ["SkinError", "Barred", "NoStep", "AtEnd", "NotClosed", "NotYet", "NoJoin", "BadRow", "NoSkin"],
+}
+
+
+def defined_in(name, kind):
+    tree = ast.parse((FOLDER / name).read_text("ascii"))
+    return {node.name: node for node in tree.body if isinstance(node, kind)}
+
+
+class Interface(unittest.TestCase):
+    def test_functions(self):
+        for name, wanted in FUNCTIONS.items():
+            found = defined_in(name, ast.FunctionDef)
+            for function, arguments in wanted.items():
+                self.assertIn(function, found, name)
+                self.assertEqual([arg.arg for arg in found[function].args.args], arguments, function)
+
+    def test_classes(self):
+        for name, wanted in CLASSES.items():
+            self.assertEqual(list(defined_in(name, ast.ClassDef)), wanted, name)
+
+
+if __name__ == "__main__":
+    unittest.main()

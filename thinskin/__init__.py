@@ -1,0 +1,1 @@
+"""Thinskin: skins of triangles made simpler, and taken back."""

@@ -21,6 +21,28 @@ FUNCTIONS = {
         "square_to": ["flake", "vector"],
         "shows_foot": ["flake", "vector", "thing"],
     },
+    "skins.py": {
+        "is_skin": ["thing"],
+        "fault_in": ["corners", "triangles"],
+    },
+    "nearby.py": {
+        "corners_of": ["skin"],
+        "ties_of": ["skin"],
+        "rim_ties": ["skin"],
+        "star_of": ["skin", "corner"],
+        "fan_of": ["skin", "corner"],
+    },
+    "shape.py": {
+        "parts_of": ["skin"],
+        "rims_of": ["skin"],
+        "handles_of": ["skin"],
+        "shape_of": ["skin"],
+    },
+    "marks.py": {
+        "marked_ties": ["skin"],
+        "kind_of": ["skin", "corner"],
+        "lines_of": ["skin"],
+    },
 }
 CLASSES = {
     "errors.py": ["SkinError", "Barred", "NoStep", "AtEnd", "NotClosed", "NotYet", "NoJoin", "BadRow", "NoSkin"],

@@ -36,9 +36,11 @@ BARRED_NODES = (
     ast.NamedExpr, ast.Yield, ast.YieldFrom, ast.Lambda)
 
 
+TREES = [(path, ast.parse(path.read_text("ascii"))) for path in FILES]
+
+
 def trees():
-    for path in FILES:
-        yield path, ast.parse(path.read_text("ascii"))
+    return TREES
 
 
 def nodes(kinds):
@@ -61,6 +63,18 @@ def bound_names(tree):
             yield node.asname or node.name
         elif isinstance(node, ast.ExceptHandler) and node.name:
             yield node.name
+
+
+def is_call_of(node, name):
+    return isinstance(node, ast.Call) and isinstance(node.func, ast.Name) and node.func.id == name
+
+
+def stored_sets(function):
+    """The names to which a function assigns a set."""
+    for node in ast.walk(function):
+        if isinstance(node, ast.Assign) and (isinstance(node.value, (ast.Set, ast.SetComp))
+                                             or is_call_of(node.value, "set")):
+            yield node.targets[0].id
 
 
 class Files(unittest.TestCase):
@@ -163,6 +177,41 @@ class Statements(unittest.TestCase):
                 self.assertNotIn("%", node.value, where)
 
 
+class Sets(unittest.TestCase):
+    def test_a_set_stands_where_its_order_is_not_seen(self):
+        for path, tree in trees():
+            above = {below: node for node in ast.walk(tree) for below in ast.iter_child_nodes(node)}
+            for node in ast.walk(tree):
+                if isinstance(node, (ast.Set, ast.SetComp)) or is_call_of(node, "set"):
+                    over = above[node]
+                    stored = isinstance(over, ast.Assign) and isinstance(over.targets[0], ast.Name)
+                    asked = is_call_of(over, "sorted") or is_call_of(over, "len") or isinstance(over, ast.Compare)
+                    self.assertTrue(stored or asked, f"{path.name}:{node.lineno}")
+
+    def test_a_stored_set_is_only_added_to_and_asked(self):
+        for where, function in nodes(ast.FunctionDef):
+            above = {below: node for node in ast.walk(function) for below in ast.iter_child_nodes(node)}
+            for name in stored_sets(function):
+                for node in ast.walk(function):
+                    if isinstance(node, ast.Name) and node.id == name and isinstance(node.ctx, ast.Load):
+                        over = above[node]
+                        added = isinstance(over, ast.Attribute) and over.attr in ("add", "discard")
+                        asked = is_call_of(over, "sorted") or is_call_of(over, "len") or isinstance(over, ast.Compare)
+                        self.assertTrue(added or asked, where)
+
+
+class Classes(unittest.TestCase):
+    def test_no_name_is_a_method_and_an_attribute(self):
+        methods = {node.name for _, owner in nodes(ast.ClassDef) for node in owner.body
+                   if isinstance(node, ast.FunctionDef)}
+        assigned = {node.attr for _, node in nodes(ast.Attribute) if isinstance(node.ctx, ast.Store)}
+        called = {id(node.func) for _, node in nodes(ast.Call)}
+        self.assertEqual(methods & assigned, set())
+        for where, node in nodes(ast.Attribute):
+            if isinstance(node.ctx, ast.Load) and id(node) not in called and node.attr != "__init__":
+                self.assertIn(node.attr, assigned, where)
+
+
 class Names(unittest.TestCase):
     def test_names_are_plain(self):
         for path, tree in trees():
@@ -171,6 +220,15 @@ class Names(unittest.TestCase):
                     self.assertRegex(name, r"\A[A-Za-z][A-Za-z0-9_]*\Z", path.name)
                     self.assertNotIn(name, BARRED_NAMES, path.name)
                     self.assertFalse(hasattr(builtins, name), f"{path.name}: {name}")
+
+    def test_no_local_name_is_that_of_an_import_or_a_class(self):
+        for path, tree in trees():
+            taken = {alias.name for node in tree.body if isinstance(node, ast.ImportFrom) for alias in node.names}
+            taken |= {node.name for node in tree.body if isinstance(node, ast.ClassDef)}
+            for function in ast.walk(tree):
+                if isinstance(function, ast.FunctionDef):
+                    local = set(bound_names(function)) - {function.name}
+                    self.assertEqual(local & taken, set(), f"{path.name}:{function.lineno}")
 
     def test_only_listed_builtins(self):
         for path, tree in trees():

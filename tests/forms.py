@@ -145,6 +145,13 @@ def bumpy(seed):
     return lambda x, y: known.setdefault((x, y), chance.randint(-4, 4))
 
 
+def wheel(places, labels):
+    """A corner 0 at the origin, and others all round it."""
+    many = len(places)
+    triangles = [(0, 1 + k, 1 + (k + 1) % many, labels[k]) for k in range(many)]
+    return make_skin([(0, 0, 0)] + places, triangles)
+
+
 def with_hole(wide, high):
     """A sheet that has no triangles in the square at its middle: a form of two rims."""
     places, triangles = sheet(wide, high)

@@ -187,33 +187,32 @@ def lines(skin):
     return sorted(told)
 
 
-def bar(skin, stay, b, a):
+def bars(skin, stay, b, a):
+    """All that bars b from being drawn to a, each word by itself, in the document's order."""
     corners, triangles = skin
     joined = ties(skin)
 
     def are_tied(one, other):
         return (min(one, other), max(one, other)) in joined
 
-    if not are_tied(a, b):
-        return "apart"
-    if b in stay:
-        return "stays"
     kind_b = kind(skin, b)
-    if kind_b == "fixed" or kind_b == "line" and (min(a, b), max(a, b)) not in marked(skin):
-        return "mark"
     sets = [set(triangle[:3]) for triangle in triangles]
-    for corner in corners_of(skin):
-        if are_tied(corner, a) and are_tied(corner, b) and {a, b, corner} not in sets:
-            return "shape"
-    for two in itertools.combinations(corners_of(skin), 2):
-        if a not in two and b not in two and {a, *two} in sets and {b, *two} in sets:
-            return "shape"
+    had = corners_of(skin)
+    mark = kind_b == "fixed" or kind_b == "line" and (min(a, b), max(a, b)) not in marked(skin)
+    shape_ = any(are_tied(k, a) and are_tied(k, b) and {a, b, k} not in sets for k in had)
+    both = [trio - {b} for trio in sets if b in trio and a not in trio]
+    shape_ = shape_ or any({a, *two} in sets for two in both)
+    turn = False
     for triangle in star(skin, b):
         if a not in triangle[:3]:
             moved = tuple(a if k == b else k for k in triangle[:3])
-            if dot(normal(corners, moved), normal(corners, triangle)) <= 0:
-                return "turn"
-    return None
+            turn = turn or dot(normal(corners, moved), normal(corners, triangle)) <= 0
+    found = [("apart", not are_tied(a, b)), ("stays", b in stay), ("mark", mark), ("shape", shape_), ("turn", turn)]
+    return [word for word, there in found if there]
+
+
+def bar(skin, stay, b, a):
+    return (bars(skin, stay, b, a) + [None])[0]
 
 
 def drawn(skin, b, a):
@@ -224,6 +223,19 @@ def drawn(skin, b, a):
             x, y, z = [a if k == b else k for k in triangle[:3]]
             left.append(min((x, y, z), (y, z, x), (z, x, y)) + triangle[3:])
     return (skin[0], tuple(sorted(left)))
+
+
+def ahead(skin, step):
+    """All skins from which the step leads to this one, by trying all: of few triangles only."""
+    b, a, star_b = step
+    found = []
+    for many in range(len(skin[1]) + 1):
+        for others in itertools.combinations(skin[1], many):
+            there = (skin[0], tuple(sorted(others + star_b)))
+            if is_skin(there) and star(there, b) == star_b and bar(there, (), b, a) is None:
+                if drawn(there, b, a) == skin:
+                    found.append(there)
+    return found
 
 
 def planes(skin):

@@ -43,9 +43,38 @@ FUNCTIONS = {
         "kind_of": ["skin", "corner"],
         "lines_of": ["skin"],
     },
+    "drawing.py": {
+        "bar_of": ["skin", "stay", "b", "a"],
+        "drawn_skin": ["skin", "stay", "b", "a"],
+        "put_back": ["skin", "step"],
+        "shows_step": ["skin", "step", "other"],
+    },
+    "prices.py": {
+        "planes_of": ["skin"],
+        "price_at": ["planes", "place"],
+        "prices_of": ["skin", "stay", "planes"],
+    },
 }
 CLASSES = {
     "errors.py": ["SkinError", "Barred", "NoStep", "AtEnd", "NotClosed", "NotYet", "NoJoin", "BadRow", "NoSkin"],
+}
+METHODS = {
+    ("thinner.py", "Thinner"): {
+        "__init__": ["self", "skin", "stay"],
+        "first_skin": ["self"],
+        "skin_now": ["self"],
+        "staying": ["self"],
+        "bar_to": ["self", "b", "a"],
+        "draw_to": ["self", "b", "a"],
+        "prices_now": ["self"],
+        "least_now": ["self"],
+        "steps_done": ["self"],
+        "go_back": ["self"],
+        "go_forth": ["self"],
+        "steps_undone": ["self"],
+        "thin_to": ["self", "most"],
+        "make_twin": ["self"],
+    },
 }
 
 
@@ -65,6 +94,14 @@ class Interface(unittest.TestCase):
     def test_classes(self):
         for name, wanted in CLASSES.items():
             self.assertEqual(list(defined_in(name, ast.ClassDef)), wanted, name)
+
+    def test_methods(self):
+        for (name, owner), wanted in METHODS.items():
+            body = defined_in(name, ast.ClassDef)[owner].body
+            found = {node.name: node for node in body if isinstance(node, ast.FunctionDef)}
+            for method, arguments in wanted.items():
+                self.assertIn(method, found, owner)
+                self.assertEqual([arg.arg for arg in found[method].args.args], arguments, method)
 
 
 if __name__ == "__main__":

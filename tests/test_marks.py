@@ -4,7 +4,7 @@ import unittest
 
 import plain
 from forms import (all_forms, beside, box, make_skin, relabelled, renumbered, ring, sheet, spread, tip, triangle, tube,
-                   turned_over)
+                   turned_over, wheel)
 from things import check_own
 from thinskin.marks import kind_of, lines_of, marked_ties
 from thinskin.nearby import corners_of, rim_ties, ties_of
@@ -22,13 +22,6 @@ def island():
 def folded_rim(far):
     """Two triangles at corner 0, whose ties on the rim lie on one another, to 10 and to far."""
     return make_skin([(0, 0, 0), (10, 0, 0), (0, 10, 0), (far, 0, 0)], [(0, 1, 2, 0), (0, 2, 3, 0)])
-
-
-def wheel(places, labels):
-    """A corner 0 at the origin, and others all round it."""
-    many = len(places)
-    triangles = [(0, 1 + k, 1 + (k + 1) % many, labels[k]) for k in range(many)]
-    return make_skin([(0, 0, 0)] + places, triangles)
 
 
 ROUND = [(10, 0, 0), (10, 10, 0), (0, 10, 0), (-10, 0, 0), (0, -10, 0)]

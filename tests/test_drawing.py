@@ -7,7 +7,7 @@ import unittest
 import plain
 from forms import (all_forms, beside, box, bumpy, double_tip, make_skin, renumbered, ring, sheet, spread, tip, triangle,
                    tube, wheel)
-from things import odd_things
+from things import odd_things, with_truths
 from thinskin.drawing import bar_of, drawn_skin, put_back, shows_step
 from thinskin.errors import Barred, NoStep
 from thinskin.marks import lines_of
@@ -394,10 +394,9 @@ class ShowsStep(unittest.TestCase):
         self.assertIs(is_skin(skin), True)
         other, step = drawn_skin(skin, (), 2, 1)
         told = (other, step)
-        for way in ways_to_numbers(told):
-            changed = with_truth(told, way)
+        for changed in with_truths(told):
             self.assertEqual(changed, told)
-            self.assertIs(shows_step(skin, changed[1], changed[0]), False, way)
+            self.assertIs(shows_step(skin, changed[1], changed[0]), False, repr(changed))
         self.assertIs(shows_step(skin, step, other), True)
 
     def test_odd_things(self):
@@ -420,22 +419,6 @@ class ShowsStep(unittest.TestCase):
             self.assertIs(shows_step(skin, (number, 0, step[2]), other), False)
             self.assertIs(shows_step(skin, (4, number, step[2]), other), False)
             self.assertIs(shows_step(skin, (number, 0, ()), skin), False)
-
-
-def ways_to_numbers(thing, way=()):
-    """Ways to all noughts and ones within a thing."""
-    if isinstance(thing, tuple):
-        for at, part in enumerate(thing):
-            yield from ways_to_numbers(part, way + (at,))
-    elif thing in (0, 1):
-        yield way
-
-
-def with_truth(thing, way):
-    if not way:
-        return bool(thing)
-    at = way[0]
-    return thing[:at] + (with_truth(thing[at], way[1:]),) + thing[at + 1:]
 
 
 if __name__ == "__main__":

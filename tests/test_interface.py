@@ -54,6 +54,28 @@ FUNCTIONS = {
         "price_at": ["planes", "place"],
         "prices_of": ["skin", "stay", "planes"],
     },
+    "far.py": {
+        "nearest_of": ["skin", "vector"],
+        "shows_nearest": ["skin", "vector", "thing"],
+        "farthest_of": ["one", "other"],
+        "bounds_of": ["one", "other", "halvings"],
+        "both_bounds": ["one", "other", "halvings"],
+        "is_within": ["one", "other", "halvings", "square"],
+    },
+    "fronts.py": {
+        "touched_by": ["step"],
+        "leans_of": ["steps"],
+        "is_closed": ["steps", "choice"],
+        "with_leans": ["steps", "choice"],
+        "without_these": ["steps", "choice"],
+        "mixed_skin": ["first", "steps", "choice"],
+    },
+    "views.py": {
+        "part_in": ["skin", "box"],
+        "barred_by": ["first", "steps", "wish"],
+        "choice_for": ["first", "steps", "wishes"],
+        "view_for": ["first", "steps", "wishes"],
+    },
 }
 CLASSES = {
     "errors.py": ["SkinError", "Barred", "NoStep", "AtEnd", "NotClosed", "NotYet", "NoJoin", "BadRow", "NoSkin"],
@@ -73,6 +95,16 @@ METHODS = {
         "go_forth": ["self"],
         "steps_undone": ["self"],
         "thin_to": ["self", "most"],
+        "make_twin": ["self"],
+    },
+    ("front.py", "Front"): {
+        "__init__": ["self", "first", "steps"],
+        "do_step": ["self", "k"],
+        "undo_step": ["self", "k"],
+        "skin_now": ["self"],
+        "steps_in": ["self"],
+        "can_do": ["self"],
+        "can_undo": ["self"],
         "make_twin": ["self"],
     },
 }

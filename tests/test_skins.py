@@ -7,33 +7,11 @@ import unittest
 
 import plain
 from forms import all_forms, beside, double_tip, make_skin, on_circle, ring, sheet, spread, tip, triangle, tube
-from things import deep_thing, odd_things
+from things import deep_thing, odd_things, with_lists, with_others, with_truths
 from thinskin.skins import fault_in, is_skin
 
 # Five corners, no three of them on one line but the first, the second and the last.
 TABLE = ((0, 0, 0), (4, 0, 0), (0, 4, 0), (0, 0, 4), (8, 0, 0))
-
-
-def parts_within(thing, way=()):
-    """The ways to all things within a thing of tuples, itself among them."""
-    yield way
-    if isinstance(thing, tuple):
-        for at, part in enumerate(thing):
-            yield from parts_within(part, way + (at,))
-
-
-def part_at(thing, way):
-    for at in way:
-        thing = thing[at]
-    return thing
-
-
-def with_part(thing, way, new):
-    """The thing with another thing at the end of the way."""
-    if not way:
-        return new
-    at = way[0]
-    return thing[:at] + (with_part(thing[at], way[1:], new),) + thing[at + 1:]
 
 
 class IsSkin(unittest.TestCase):
@@ -114,35 +92,21 @@ class IsSkin(unittest.TestCase):
 
     def test_any_part_in_another_kind(self):
         for skin in [triangle(), make_skin(TABLE[:4], [(0, 1, 2, 1), (0, 2, 3, 0)])]:
-            for way in parts_within(skin):
-                part = part_at(skin, way)
-                others = [None, "", "0", [], (), True, False, [part], (part,), str(part)]
-                if isinstance(part, tuple):
-                    others += [list(part), part[:-1], part + part[-1:], part[::-1]]
-                else:
-                    others += [-1, 10 ** 9, 2000, bool(part)]
-                for other in others:
-                    thing = with_part(skin, way, other)
-                    before = copy.deepcopy(thing)
-                    self.assertIs(is_skin(thing), plain.is_skin(thing), repr(thing))
-                    self.assertEqual(repr(thing), repr(before))
+            for thing in with_others(skin):
+                before = copy.deepcopy(thing)
+                self.assertIs(is_skin(thing), plain.is_skin(thing), repr(thing))
+                self.assertEqual(repr(thing), repr(before))
 
     def test_true_in_the_place_of_one(self):
         skin = (TABLE[:1] + ((1, 0, 0), (0, 1, 0)), ((0, 1, 2, 1),))
         self.assertIs(is_skin(skin), True)
-        for way in parts_within(skin):
-            part = part_at(skin, way)
-            if part in (0, 1):
-                thing = with_part(skin, way, bool(part))
-                self.assertEqual(thing, skin)
-                self.assertIs(is_skin(thing), False, way)
+        for thing in with_truths(skin):
+            self.assertEqual(thing, skin)
+            self.assertIs(is_skin(thing), False, repr(thing))
 
     def test_lists_in_the_place_of_tuples(self):
-        skin = sheet(1, 1)
-        for way in parts_within(skin):
-            part = part_at(skin, way)
-            if isinstance(part, tuple):
-                self.assertIs(is_skin(with_part(skin, way, list(part))), False, way)
+        for thing in with_lists(sheet(1, 1)):
+            self.assertIs(is_skin(thing), False, repr(thing))
 
     def test_odd_things(self):
         things = odd_things() + [deep_thing(depth) for depth in range(11)]

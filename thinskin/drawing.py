@@ -92,15 +92,21 @@ def bar_of(skin, stay, b, a):
     return bar_between(skin[0], stay, Around(star_of(skin, b), b), Around(star_of(skin, a), a))
 
 
+def skin_behind(skin, step):
+    """The skin behind a step that is let."""
+    corners, triangles = skin
+    b, a, star = step
+    left = [triangle for triangle in triangles if b not in triangle[:3]]
+    return (corners, tuple(sorted(left + moved_star(star, b, a))))
+
+
 def drawn_skin(skin, stay, b, a):
     """A pair: the skin behind drawing b to a, and the step; or Barred."""
     word = bar_of(skin, stay, b, a)
     if word is not None:
         raise Barred(f"corner {b} is not drawn to {a}: {word}", word)
-    corners, triangles = skin
-    star = star_of(skin, b)
-    left = [triangle for triangle in triangles if b not in triangle[:3]]
-    return ((corners, tuple(sorted(left + moved_star(star, b, a)))), (b, a, star))
+    step = (b, a, star_of(skin, b))
+    return (skin_behind(skin, step), step)
 
 
 def skin_ahead(skin, step):

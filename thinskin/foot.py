@@ -80,9 +80,14 @@ def foot_on(flake, vector):
     return (fraction_of(x, whole), fraction_of(y, whole), fraction_of(z, whole))
 
 
+def square_from(flake, vector):
+    """The square of how far the flake is from the vector, not in lowest terms."""
+    return square_at(flake, foot_shares(flake, vector), vector)
+
+
 def square_to(flake, vector):
     """The square of how far the flake is from the vector, a fraction."""
-    n, d = square_at(flake, foot_shares(flake, vector), vector)
+    n, d = square_from(flake, vector)
     return fraction_of(n, d)
 
 

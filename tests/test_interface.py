@@ -76,6 +76,30 @@ FUNCTIONS = {
         "choice_for": ["first", "steps", "wishes"],
         "view_for": ["first", "steps", "wishes"],
     },
+    "cutting.py": {
+        "regions_of": ["skin"],
+        "cut_pieces": ["skin"],
+        "joined_skin": ["corners", "pieces"],
+    },
+    "texts.py": {
+        "skin_text": ["skin"],
+        "read_skin": ["text"],
+        "steps_text": ["steps"],
+        "read_steps": ["first", "stay", "text"],
+    },
+    "desk.py": {
+        "answers_to": ["text"],
+    },
+    "carry.py": {
+        "weights_of": ["spot"],
+        "least_spot": ["skin", "spot"],
+        "is_spot": ["skin", "thing"],
+        "place_of": ["skin", "spot"],
+        "carried_on": ["skin", "step", "spot"],
+        "brought_back": ["skin", "step", "spot"],
+        "carried_all": ["first", "steps", "choice", "spot"],
+        "brought_all": ["first", "steps", "choice", "spot"],
+    },
 }
 CLASSES = {
     "errors.py": ["SkinError", "Barred", "NoStep", "AtEnd", "NotClosed", "NotYet", "NoJoin", "BadRow", "NoSkin"],

@@ -7,6 +7,7 @@ from thinskin.foot import foot_on
 from thinskin.foot import square_from
 from thinskin.kinds import is_alike
 from thinskin.nearby import corners_of
+from thinskin.skins import flake_at
 from thinskin.space import compare_two
 from thinskin.space import fraction_of
 
@@ -14,7 +15,7 @@ from thinskin.space import fraction_of
 def flakes_of(skin):
     """The list of the flakes of its triangles, in their order."""
     corners, triangles = skin
-    return [(corners[a], corners[b], corners[c]) for a, b, c, label in triangles]
+    return [flake_at(corners, triangle) for triangle in triangles]
 
 
 def squares_to(flakes, vector):

@@ -74,10 +74,15 @@ def foot_shares(flake, vector):
     return nearest
 
 
+def point_by(flake, shares):
+    """The point with these shares, a tuple of three fractions."""
+    (x, y, z), whole = point_at(flake, shares)
+    return (fraction_of(x, whole), fraction_of(y, whole), fraction_of(z, whole))
+
+
 def foot_on(flake, vector):
     """The nearest point of the flake, a tuple of three fractions."""
-    (x, y, z), whole = point_at(flake, foot_shares(flake, vector))
-    return (fraction_of(x, whole), fraction_of(y, whole), fraction_of(z, whole))
+    return point_by(flake, foot_shares(flake, vector))
 
 
 def square_from(flake, vector):

@@ -67,6 +67,35 @@ def neighbours_in(star, corner):
     return sorted({other for triangle in star for other in triangle[:3] if other != corner})
 
 
+def reached_from(links, first):
+    """The rising list of what one comes to from the first, itself among it, by the links."""
+    reached = {first: True}
+    left = [first]
+    while left:
+        here = left.pop()
+        for beside in links[here]:
+            if beside not in reached:
+                reached[beside] = True
+                left.append(beside)
+    return sorted(reached)
+
+
+def groups_by(links):
+    """The list of the rising lists of what hangs together by the links, by their least.
+
+    The links are a dict with, for each, the list of those beside it.
+    """
+    told = set()
+    groups = []
+    for first in sorted(links):
+        if first not in told:
+            group = reached_from(links, first)
+            groups.append(group)
+            for member in group:
+                told.add(member)
+    return groups
+
+
 def walk_from(onward, first):
     """The list from first on, each next one by onward, till it ends or comes round."""
     walk = [first]

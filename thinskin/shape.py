@@ -1,6 +1,7 @@
 """The shape of a skin: its parts, rims and handles."""
 
 from thinskin.nearby import corners_of
+from thinskin.nearby import groups_by
 from thinskin.nearby import lone_arrows
 from thinskin.nearby import neighbours_in
 from thinskin.nearby import stars_by_corner
@@ -8,31 +9,10 @@ from thinskin.nearby import ties_of
 from thinskin.nearby import walk_from
 
 
-def part_from(stars, first):
-    """The rising list of the corners to which one comes from the first by ties."""
-    reached = {first: True}
-    left = [first]
-    while left:
-        here = left.pop()
-        for beside in neighbours_in(stars[here], here):
-            if beside not in reached:
-                reached[beside] = True
-                left.append(beside)
-    return sorted(reached)
-
-
 def parts_of(skin):
     """The list of parts, each the rising list of its corners, by their least corner."""
     stars = stars_by_corner(skin[1])
-    told = set()
-    parts = []
-    for first in corners_of(skin):
-        if first not in told:
-            part = part_from(stars, first)
-            parts.append(part)
-            for corner in part:
-                told.add(corner)
-    return parts
+    return groups_by({corner: neighbours_in(stars[corner], corner) for corner in stars})
 
 
 def rims_of(skin):

@@ -11,10 +11,16 @@ from thinskin.space import normal_of
 HIGHEST_LABEL = 9
 
 
+def flake_at(corners, triangle):
+    """The tuple of the places of a triangle's corners, in their order."""
+    a, b, c = triangle[:3]
+    return (corners[a], corners[b], corners[c])
+
+
 def normal_at(corners, triangle):
     """The normal of a triangle, by the places of its corners."""
-    a, b, c = triangle[:3]
-    return normal_of(corners[a], corners[b], corners[c])
+    a, b, c = flake_at(corners, triangle)
+    return normal_of(a, b, c)
 
 
 def is_table(thing):

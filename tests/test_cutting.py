@@ -18,10 +18,20 @@ def pinched(height=None):
     return sheet(4, 4, height, lambda x, y: int((x, y) in [(2, 1), (1, 2)]))
 
 
+def pinched_at_nought():
+    """The pinched one, its triangles there rising by turns of one fan and the other."""
+    first = [12, 6, 13, 18, 11]
+    order = first + [k for k in range(25) if k not in first]
+    corners, triangles = pinched()
+    return make_skin([corners[k] for k in order], [
+        (order.index(a), order.index(b), order.index(c), label) for a, b, c, label in triangles])
+
+
 FORMS = dict(all_forms(), **{
     "pinched": pinched(),
     "pinched and shuffled": renumbered(pinched(), 2),
     "pinched and spread": spread(pinched(bumpy(3))),
+    "pinched at nought": pinched_at_nought(),
     "pinched twice": sheet(6, 4, label=lambda x, y: int((x, y) in [(2, 1), (1, 2), (4, 1), (3, 2)])),
     "stripes": sheet(4, 4, label=lambda x, y: x % 2),
     "stripes round a ring": ring(6, 5, lambda k, j: k % 2),
@@ -92,6 +102,16 @@ class Pieces(unittest.TestCase):
         self.assertEqual(back, [[(6, 7, 12), (6, 12, 11)], [(12, 13, 18), (12, 18, 17)]])
         # Where it was pinched the rims of both squares have become one.
         self.assertEqual(plain.shape(piece), (1, 2, 0))
+
+    def test_fans_whose_triangles_rise_by_turns(self):
+        skin = pinched_at_nought()
+        region = plain_cutting.regions(skin)[0]
+        (piece, origins), *others = cut_pieces(skin)
+        self.assertEqual(origins[:3], (0, 0, 1))
+        back = [tuple(origins[k] for k in trio[:3]) + trio[3:] for trio in piece[1]]
+        self.assertEqual(sorted(back), list(region))
+        self.assertNotEqual(back, list(region))
+        self.assertEqual(list(piece[1]), sorted(piece[1]))
 
     def test_fans_by_their_least_triangle(self):
         seen = 0

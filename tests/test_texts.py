@@ -172,6 +172,13 @@ class Skins(Cases):
         self.assertEqual((len(more[0]) <= 120, len(more[1])), (True, 242))
         self.assertIs(plain.is_skin(more), True)
         self.check_no_skin(skin_text(more))
+        more = (more[0], more[1][1:])
+        self.assertIs(plain.is_skin(more), True)
+        self.check_no_skin(skin_text(more))
+        fewer = [(more[0], more[1][:at] + more[1][at + 1:]) for at in range(241)]
+        just = next(skin for skin in fewer if plain.is_skin(skin))
+        self.assertEqual(len(just[1]), 240)
+        self.assertEqual(read_skin(skin_text(just)), just)
 
 
 def joined_rings():
